@@ -1,0 +1,1 @@
+"""Markbox: full boxes of a table, and the rules between its marks."""
