@@ -1,24 +1,10 @@
 """Tables: which thing has which marks."""
 
 from markbox.errors import BadMark, BadSize, BadThing
+from markbox.sets import all_below, has_all, told
 
 MOST_MARKS = 8
 MOST_THINGS = 12
-
-
-def told(numbers):
-    """A set as it is told: a new list of its numbers, each once, rising."""
-    return sorted(set(numbers))
-
-
-def all_below(numbers, many):
-    """Whether each of the numbers is from 0 to many - 1."""
-    return all(0 <= number < many for number in numbers)
-
-
-def has_all(row, marks):
-    """Whether a row has each of the marks."""
-    return all(mark in row for mark in marks)
 
 
 def on_all(mark, rows):

@@ -2,13 +2,11 @@
 
 import unittest
 
-from markbox.errors import BadMark, BadSize, BadThing, MarkError, NoBox
+from markbox.errors import BadMark, BadSize, BadThing
 from markbox.tables import Table
+from samples import FAR, Refusing, at_any_place
 
 ROWS = [[0, 1], [1, 2], [2]]
-# Python does not write out a number as long as the last two: no message
-# may show it, or another error comes instead.
-FAR = (9, 12, 100, 2 ** 64, 10 ** 5000, -(10 ** 5000))
 
 
 def answers(table):
@@ -19,22 +17,6 @@ def answers(table):
         told.append(table.marks_of(numbers))
         told.append(table.closed(numbers))
     return told
-
-
-def at_any_place(numbers, bad):
-    """The numbers with a bad one before, between and behind them."""
-    return [numbers[:k] + [bad] + numbers[k:] for k in range(len(numbers) + 1)]
-
-
-class Refusing(unittest.TestCase):
-    def assertRefused(self, kind, call, *handed):
-        """The call is refused by this kind, which no other kind takes."""
-        with self.assertRaises(ValueError) as caught:
-            call(*handed)
-        self.assertIs(type(caught.exception), kind)
-        self.assertIsInstance(caught.exception, MarkError)
-        for other in (BadSize, BadMark, BadThing, NoBox):
-            self.assertEqual(isinstance(caught.exception, other), other is kind)
 
 
 class BadSizes(Refusing):

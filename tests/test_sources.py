@@ -19,7 +19,7 @@ def trees():
 class Sources(unittest.TestCase):
     def test_the_files_are_found(self):
         names = [name for name, _ in trees()]
-        self.assertLessEqual({"__init__.py", "errors.py", "tables.py"}, set(names))
+        self.assertLessEqual({"__init__.py", "boxes.py", "errors.py", "rules.py", "tables.py"}, set(names))
 
     def test_imports_are_from_the_package_or_from_what_only_counts(self):
         for name, tree in trees():

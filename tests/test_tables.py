@@ -1,56 +1,19 @@
 """What a table tells: its fields, and points [1], [2] and [3]."""
 
 import unittest
-from itertools import permutations, product
+from itertools import permutations
 
 from markbox.tables import Table
-
-POND = [[0, 5], [0, 5, 6], [0, 1, 5, 6], [0, 1, 2, 3], [1, 2, 4]]
-
-
-def subsets(many):
-    """All sets of numbers below many, as lists, rising."""
-    return [[k for k in range(many) if at >> k & 1] for at in range(2 ** many)]
-
-
-def expected_things(rows, marks):
-    return [k for k in range(len(rows)) if set(marks) <= set(rows[k])]
-
-
-def expected_marks(many, rows, things):
-    shared = set(range(many))
-    for thing in things:
-        shared &= set(rows[thing])
-    return sorted(shared)
-
-
-def small_tables():
-    """Every table of 0 to 3 marks and 0 to 3 things."""
-    for many in range(4):
-        for count in range(4):
-            for rows in product(subsets(many), repeat=count):
-                yield many, list(rows)
-
-
-def full_size_tables():
-    """Some tables of 8 marks and 12 things, of few marks and of many."""
-    yield 8, [[mark for mark in range(8) if mark != k and mark != k - 4] for k in range(12)]
-    yield 8, [[mark for mark in range(8) if (k * k + 3 * mark) % 7 < 3] for k in range(12)]
-    yield 8, [[mark for mark in range(8) if (k + 1) % (mark + 1) == 0] for k in range(12)]
-
-
-def mixed(numbers):
-    """The same set, falling and with each number more than once."""
-    return numbers[::-1] + numbers + numbers[:1]
-
-
-class Told(unittest.TestCase):
-    def assertTold(self, answer, wanted):
-        """The answer is a plain list of plain whole numbers, as wanted."""
-        self.assertIs(type(answer), list)
-        for number in answer:
-            self.assertIs(type(number), int)
-        self.assertEqual(answer, wanted)
+from samples import (
+    POND,
+    Told,
+    full_size_tables,
+    marks_by_words,
+    mixed,
+    small_tables,
+    subsets,
+    things_by_words,
+)
 
 
 class Fields(Told):
@@ -212,11 +175,11 @@ class AgainstTheWords(Told):
         table = Table(many, [mixed(row) for row in rows])
         self.assertEqual(table.rows, rows)
         for marks in subsets(many):
-            things = expected_things(rows, marks)
+            things = things_by_words(rows, marks)
             self.assertTold(table.things_with(mixed(marks)), things)
-            self.assertTold(table.closed(mixed(marks)), expected_marks(many, rows, things))
+            self.assertTold(table.closed(mixed(marks)), marks_by_words(many, rows, things))
         for things in kept:
-            self.assertTold(table.marks_of(mixed(things)), expected_marks(many, rows, things))
+            self.assertTold(table.marks_of(mixed(things)), marks_by_words(many, rows, things))
 
     def test_every_small_table(self):
         for many, rows in small_tables():
